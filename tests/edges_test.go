@@ -121,7 +121,7 @@ func (e edges) inAndOut(list []impl.Txn) (in, out bool) {
 	return in, out
 }
 
-func (e edges) danger(list []impl.Txn) bool {
+func (e edges) danger(t impl.Txn, list []impl.Txn) bool {
 	in, out := e.inAndOut(list)
 	found := in && out
 	for i, x := range list {
@@ -131,14 +131,14 @@ func (e edges) danger(list []impl.Txn) bool {
 		}
 		found = found || e.from[i]
 		for j, y := range list {
-			found = found || y.State == 2 && e.between[j][i]
+			found = found || y.State == 2 && y.Id != t.Id && e.between[j][i]
 		}
 	}
 	return found
 }
 
 func (e edges) readyDanger(t impl.Txn, list []impl.Txn) bool {
-	found := e.danger(list)
+	found := e.danger(t, list)
 	in, _ := e.inAndOut(list)
 	for i, x := range list {
 		if x.State != 2 || !e.from[i] {
@@ -177,7 +177,7 @@ func checkAll(t *testing.T, x impl.Txn, list []impl.Txn) {
 	e := edgesOf(x, list)
 	in, out := e.inAndOut(list)
 	got := []bool{impl.Blocked(x, list), impl.OutOf(x, list), impl.InOf(x, list), impl.Danger(x, list), impl.ReadyDanger(x, list)}
-	want := []bool{blockedByWords(x, list), out, in, e.danger(list), e.readyDanger(x, list)}
+	want := []bool{blockedByWords(x, list), out, in, e.danger(x, list), e.readyDanger(x, list)}
 	if !slices.Equal(got, want) {
 		t.Fatalf("Blocked, OutOf, InOf, Danger, ReadyDanger of %#v and %#v are %v; want %v", x, list, got, want)
 	}
@@ -557,11 +557,28 @@ func TestDangerOfOneThatIsReadyAhead(t *testing.T) {
 	checkDanger(t, "x is done itself", changed(reading(x, "p"), func(x *impl.Txn) { x.State, x.Cs = 3, 9 }), true, true, p)
 }
 
-// One that is ready and has x's Id but reads otherwise is another one than P.
-func TestDangerOfTwoOfOneIdAhead(t *testing.T) {
-	list := txnList(reading(writing(readyOne(2), "p"), "x"), reading(readyOne(1), "p"))
-	checkAnswer(t, "Danger", impl.Danger(inTheMiddle(), list), true)
-	checkAnswer(t, "ReadyDanger", impl.ReadyDanger(inTheMiddle(), list), true)
+// One that has x's Id is no other one than x, whatever it reads: of that Id x alone counts, as it is.
+func TestDangerOfOneOfTheSameId(t *testing.T) {
+	x, p := inTheMiddle(), reading(writing(readyOne(2), "p"), "x")
+	alike := reading(readyOne(1), "p")
+	checkDanger(t, "one of x's Id is ahead of P", x, false, false, p, alike)
+	checkDanger(t, "one of x's Id that is Out is ahead of P", x, false, false, p, markedOut(alike))
+	checkDanger(t, "two of x's Id are ahead of P", x, false, false, p, alike, reading(readyOne(1), "o", "p"))
+	checkDanger(t, "one of x's Id, and one of another Id, are ahead of P", x, true, true, p, alike, reading(readyOne(3), "p"))
+	checkDanger(t, "one of x's Id that is done is ahead of P", x, false, false, p, reading(doneOne(1), "p"))
+	checkDanger(t, "x is ahead of P, and one of its Id is, too", reading(x, "p"), true, true, p, alike)
+	checkDanger(t, "x is ahead of P, and one of its Id is not", reading(x, "p"), true, true, p, readyOne(1))
+	checkDanger(t, "x, which is ready, is not ahead of P", changed(x, func(x *impl.Txn) { x.State, x.Name = 2, "x" }), false, false, p, alike)
+}
+
+// The same of Ids that are not right.
+func TestDangerOfOneOfTheSameWrongId(t *testing.T) {
+	for _, id := range []int{math.MinInt, -1, 0, 10000, math.MaxInt} {
+		x, p := inTheMiddle(), reading(writing(readyOne(2), "p"), "x")
+		x.Id = id
+		checkDanger(t, "one of x's Id is ahead of P", x, false, false, p, reading(readyOne(id), "p"))
+		checkDanger(t, "one of another Id is ahead of P", x, true, true, p, reading(readyOne(id/2+7), "p"))
+	}
 }
 
 func TestReadyDanger(t *testing.T) {
